@@ -1,0 +1,115 @@
+"""The examples of the document, section by section, with the value or the error that each shows."""
+
+import unittest
+
+from allnear import checks, curves, errors, papers, polys, readings, schemes, terms, words
+from tests.helper import Case
+
+MODULES = (checks, curves, errors, papers, polys, readings, schemes, terms, words)
+
+EXAMPLES = """
+# checks
+>>> [is_integer(True), is_within(3, None, 3), is_numbers((1, True)), is_prime(97), is_prime(91), is_prime("2"), is_sign(5, 4), is_sign(5, 5), first_twice([3, 1, 3]), len(PRIMES)]
+[False, True, False, True, False, False, True, False, 3, 25]
+# papers
+>>> [fixed([1, [None, (2, [])], "a"]), bool(Paper("note", [1])), bool(Denial("note")), Paper("note", [1]) == Paper("note", (1,)), Paper("note", 1) == Denial("note", 1)]
+[(1, (None, (2, ())), 'a'), True, False, True, False]
+# polys
+>>> [inverse(7, 3), inverse(7, -4), inverse(2, 1)]
+[5, 5, 1]
+>>> inverse(5, 10)
+raises ByZero()
+>>> f, g = Poly(7, [3, 0, 1]), Poly(7, [-1, 8])
+>>> [f.coefficients, g.coefficients, f.degree, Poly(7).degree, str(f), str(Poly(7)), f(2), f(-1), Poly(7, [2, 0, 14]) == Poly(7, [2])]
+[(3, 0, 1), (6, 1), 2, -1, '7 : 3 0 1', '7 :', 0, 4, True]
+>>> [str(f + g), str(f - f), str(f * g), str(f // g), str(f % g), str(-g), str(g ** 2)]
+['7 : 2 1 1', '7 :', '7 : 4 3 6 1', '7 : 1 1', '7 : 4', '7 : 1 6', '7 : 1 5 1']
+>>> [str(f.moved(1)), str(f.moved(2, 3)), str(f.at(g)), Poly.read("7 : 3 0 1") == f]
+['7 : 4 2 1', '7 : 0 5 2', '7 : 4 5 1', True]
+>>> [roots(f), roots(g), roots(Poly(3)), str(shared(f, Poly(7, [2, 1]))), str(through(7, [(0, 3), (2, 0), (1, 4)]))]
+[(2, 5), (1,), (0, 1, 2), '7 : 2 1', '7 : 3 0 1']
+>>> Poly.read("7 : 3 0")
+raises BadText(0, 3)
+# schemes
+>>> scheme = Scheme(7, [1, 2, 4], 2)
+>>> [str(scheme), len(scheme), scheme.renamed(3, 1).places, Scheme.read("5 2 at 4 at 0") == Scheme(5, (4, 0), 2)]
+['7 2 at 1 at 2 at 4', 3, (4, 0, 6), True]
+>>> Scheme(5, [0, 1, 2, 1], 9)
+raises Twice(1)
+>>> Scheme.read("7 3 at 0 at 5")
+raises BadText(0, 6)
+# words
+>>> word = Poly(7, [3, 2])
+>>> [row_of(scheme, word), word_of(scheme, [5, 0, 4]) == word, word_of(scheme, [5, 0, 5]), coefficients_of(scheme, Poly(7, [3]))]
+[(5, 0, 4), True, None, (3, 0)]
+>>> [[one.coefficients for one in words(Scheme(2, [0, 1], 2))], is_word(scheme, Poly(7, [0, 0, 1])), is_word(scheme, Poly(5, [1]))]
+[[(), (0, 1), (1,), (1, 1)], False, False]
+# readings
+>>> reading = Reading(Scheme(7, [0, 1, 2], 2), [[(3, 1)], [], [(5, 1), (4, 2)]])
+>>> [str(reading), reading.points, reading.weights, reading.squares, reading.is_plain]
+['7 2 at 0 3 1 at 1 at 2 4 2 5 1', ((0, 3, 1), (2, 4, 2), (2, 5, 1)), 4, 6, False]
+>>> line = Poly(7, [3, 4])
+>>> [reading.score(line), reading.right(line), reading.with_offer(1, 0, 3).score(line), reading.without(2, 4).score(line)]
+[3, (0, 2), 6, 1]
+>>> [reading.moved(Poly(7, [0, 1])).offers, reading.stretched(3).offers[2], reading.renamed(2, 1).scheme.places]
+[(((3, 1),), (), ((0, 1), (6, 2))), ((1, 1), (5, 2)), (1, 3, 5)]
+>>> told = Reading.plain(Scheme(5, [0, 1, 2, 3, 4], 2), [0, 1, 2, 0, None])
+>>> [told.right(Poly(5, [0, 1])), told.score(Poly(5)), told.is_plain, Reading.read(str(told)) == told]
+[(0, 1, 2), 2, True, True]
+>>> reading.without(1, 0)
+raises NoOffer(0)
+>>> Reading.read("7 2 at 0 3 1 3 1 at 1")
+raises BadText(0, 6)
+# terms
+>>> [span_of(3, 1, 2), many_terms(2, 2), many_terms(3, 5), many_terms(2, -1), many_conditions([1, 2, 3, 0])]
+[5, 6, 12, 0, 10]
+>>> terms_to(3, 3)
+((0, 0), (1, 0), (2, 0), (0, 1), (3, 0), (1, 1))
+# curves
+>>> line, both = Poly(5, [0, 1]), Curve(5, [[], [0, 4], [1]])
+>>> [str(both), both.power, both.span(2), both.leading(2), both.leading(3), both.coefficient(1, 1), both.coefficient(7, 0)]
+['5 : / 0 4 / 1 /', 2, 2, (0, 2), (0, 2), 4, 0]
+>>> [both.passes(0, 0), both.passes(1, 1), both.passes(2, 1), both.passes(5, -5), str(both.around(1, 1))]
+[2, 1, 0, 2, '5 : 0 4 / 1 4 / 1 /']
+>>> [both.along(line).degree, str(both.along(Poly(5, [1, 1]))), str(both.divided(line)), both.divided(Poly(5, [1])), both.divided(line) * Curve(5, [[0, -1], [1]]) == both]
+[-1, '5 : 1 1', '5 : / 1 /', None, True]
+>>> [str(Curve(5, [[2], [0, 3, 5], [0]])), str(Curve(5, [[2], [0, 3]]).led(2)), Curve.read("5 : / 1 /").rows]
+['5 : 2 / 0 3 /', '5 : 4 / 0 1 /', ((), (1,))]
+>>> Curve.read("5 : 3 0 / 1 /")
+raises BadText(0, 4)
+"""
+
+
+def example_pairs(text):
+    """Each line of an example, and the line that tells what it shows, if any."""
+    pairs = []
+    for line in text.strip().split("\n"):
+        if line.startswith(">>> "):
+            pairs.append([line[4:], None])
+        elif not line.startswith("# "):
+            pairs[-1][1] = line
+    return pairs
+
+
+class Examples(Case):
+    """All of them, one behind another, names as earlier ones made them last."""
+
+    def test_examples(self):
+        known = {name: value for module in MODULES for name, value in vars(module).items()
+                 if getattr(value, "__module__", None) == module.__name__ or name == "PRIMES"}
+        for line, shown in example_pairs(EXAMPLES):
+            with self.subTest(line):
+                if shown is None:
+                    exec(line, known)
+                elif shown.startswith("raises "):
+                    self.fails(eval(shown[7:], known), eval, line, known)
+                else:
+                    self.same(eval(line, known), eval(shown, known))
+
+    def test_none_is_passed_over(self):
+        pairs = example_pairs(EXAMPLES)
+        self.assertEqual(len([shown for _, shown in pairs if shown]), 27)
+
+
+if __name__ == "__main__":
+    unittest.main()
