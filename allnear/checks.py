@@ -38,8 +38,8 @@ def is_sign(p, value):
 
 
 def is_signs(p, value):
-    """Whether p is a prime, and value a list or tuple of signs modulo p."""
-    return is_prime(p) and is_list(value) and all([is_within(one, 0, p - 1) for one in value])
+    """Whether it is a list or tuple of signs modulo the prime p."""
+    return is_list(value) and all([is_within(one, 0, p - 1) for one in value])
 
 
 def flat(value):

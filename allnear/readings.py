@@ -27,7 +27,7 @@ class Reading:
         self.scheme = scheme
         self.offers = tuple([tuple(sorted([(value, weight) for value, weight in pairs])) for pairs in offers])
         self.points = points_of(scheme.places, self.offers)
-        told = [weight for _, _, weight in self.points]
+        told = [weight for pairs in self.offers for _, weight in pairs]
         self.weights = sum(told)
         self.squares = sum([weight * weight for weight in told])
         self.is_plain = all([len(pairs) < 2 for pairs in self.offers]) and self.weights == len(told)

@@ -91,9 +91,10 @@ def quotient_and_rest(p, one, other):
     """The rows of quotient and rest of one by other, which is not zero."""
     size = len(other)
     turn = inverse_of(p, other[-1])
+    steps = max(0, len(one) - size + 1)
+    quotient = [0] * steps
     rest = list(one)
-    quotient = [0] * max(0, len(one) - size + 1)
-    for at in reversed(range(len(quotient))):
+    for at in reversed(range(steps)):
         times = rest[at + size - 1] * turn % p
         quotient[at] = times
         for place, sign in enumerate(other):

@@ -2,7 +2,7 @@
 
 import unittest
 
-from allnear.errors import NearError
+from allnear.errors import BadText, NearError
 
 FIELDS = ("part", "value", "least", "paper", "what", "most", "line", "item", "error")
 GREAT = 10 ** 30
@@ -46,6 +46,16 @@ class Case(unittest.TestCase):
         """`same` for the answer of a call."""
         self.same(method(*told), expected)
 
+    def reads_changed(self, make, texts, first_wrong):
+        """Texts with an item changed are read, or the item that first_wrong tells, a second way, is told."""
+        for text in texts:
+            for items in changed(text.split(" "), ODD_ITEMS):
+                told, item = " ".join(items), first_wrong(items)
+                if item is None:
+                    self.same(str(make.read(told)), told)
+                else:
+                    self.fails(BadText(0, item), make.read, told)
+
 
 def kinds(value):
     """The classes of a value and of all that is in it."""
@@ -81,8 +91,10 @@ def changed(items, odd):
         for item in odd:
             yield items[:at] + [item] + items[at + 1:]
             yield items[:at] + [item] + items[at:]
-        yield items[:at] + items[at + 1:]
-        yield items[:at]
+        if len(items) > 1:
+            yield items[:at] + items[at + 1:]
+        if at > 0:
+            yield items[:at]
     for item in odd:
         yield items + [item]
 

@@ -4,7 +4,7 @@ import unittest
 
 from allnear.curves import Curve
 from allnear.errors import BadText
-from tests.helper import ODD_ITEMS, PRIMES_WRITTEN, SOME_PRIMES, Case, Odd, changed
+from tests.helper import PRIMES_WRITTEN, SOME_PRIMES, Case, Odd
 from tests.test_curves import some_curves
 
 
@@ -52,15 +52,7 @@ class Texts(Case):
             self.fails(BadText(0, item), Curve.read, text)
 
     def test_changed(self):
-        for text in ("5 : / 0 4 / 1 /", "2 : 1 /", "97 : 0 96 / / / 3 /", "3 : 2 / 0 0 1 /"):
-            for items in changed(text.split(" "), ODD_ITEMS):
-                if not items:
-                    continue
-                told, item = " ".join(items), first_wrong(items)
-                if item is None:
-                    self.same(str(Curve.read(told)), told)
-                else:
-                    self.fails(BadText(0, item), Curve.read, told)
+        self.reads_changed(Curve, ("5 : / 0 4 / 1 /", "2 : 1 /", "97 : 0 96 / / / 3 /", "3 : 2 / 0 0 1 /"), first_wrong)
 
 
 if __name__ == "__main__":

@@ -52,7 +52,8 @@ def times(p, one, other):
 def some_curves(p):
     """Some curves, small and greater ones, also with empty rows between."""
     numbers = Numbers(p)
-    rows = [[[1]], [[], [1]], [[0, 0, 1]], [[], [], [], [0, p - 1]], [[1], [], [0, 1]], [[0, 1], [1]], [[-1, 1], [1, 1]]]
+    rows = [[[1]], [[], [1]], [[0, 0, 1]], [[], [], [], [0, p - 1]], [[1], [], [0, 1]], [[0, 1], [1]],
+            [[-1, 1], [1, 1]]]
     for sizes in ((1, 2), (3, 2, 1), (0, 4), (6, 5, 4, 3, 2), (2, 0, 0, 9), (5, 5, 5)):
         rows.append([numbers.some(size, p) for size in sizes[:-1]] + [numbers.some(sizes[-1], p) + [1]])
     return [Curve(p, told) for told in rows]

@@ -98,8 +98,8 @@ class Papers(Case):
 
     def test_unequal(self):
         paper = Paper("note", 1, (2, 3))
-        for other in (Paper("note", 1, (2, 4)), Paper("note", 1), Paper("note", 1, (2, 3), ()), Paper("Note", 1, (2, 3)),
-                      Paper("note", (2, 3), 1), Paper("note", (1, (2, 3))), Paper("note")):
+        for other in (Paper("note", 1, (2, 4)), Paper("note", 1), Paper("note", 1, (2, 3), ()),
+                      Paper("Note", 1, (2, 3)), Paper("note", (2, 3), 1), Paper("note", (1, (2, 3))), Paper("note")):
             self.assertFalse(paper == other)
             self.assertTrue(paper != other)
             self.assertFalse(other == paper)

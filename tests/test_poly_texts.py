@@ -4,7 +4,7 @@ import unittest
 
 from allnear.errors import BadText
 from allnear.polys import Poly
-from tests.helper import ODD_ITEMS, PRIMES_WRITTEN, SOME_PRIMES, Case, Numbers, Odd, changed
+from tests.helper import PRIMES_WRITTEN, SOME_PRIMES, Case, Numbers, Odd
 
 def first_wrong(items):
     """The item that BadText tells for the text of a polynomial, None for a right text."""
@@ -48,15 +48,7 @@ class Texts(Case):
             self.fails(BadText(0, item), Poly.read, text)
 
     def test_changed(self):
-        for text in ("7 : 3 0 1", "7 :", "2 : 1", "97 : 0 96", "3 : 0 0 0 2"):
-            for items in changed(text.split(" "), ODD_ITEMS):
-                if not items:
-                    continue
-                told, item = " ".join(items), first_wrong(items)
-                if item is None:
-                    self.same(str(Poly.read(told)), told)
-                else:
-                    self.fails(BadText(0, item), Poly.read, told)
+        self.reads_changed(Poly, ("7 : 3 0 1", "7 :", "2 : 1", "97 : 0 96", "3 : 0 0 0 2"), first_wrong)
 
 
 if __name__ == "__main__":

@@ -102,7 +102,8 @@ class Made(Case):
         self.assertTrue(READING == same)
         self.assertFalse(READING != same)
         for other in (READING.without(0, 3), READING.with_offer(1, 1, 1), READING.stretched(2),
-                      Reading(Scheme(7, [0, 1, 2], 3), READING.offers), Reading(Scheme(7, [0, 1, 3], 2), READING.offers),
+                      Reading(Scheme(7, [0, 1, 2], 3), READING.offers),
+                      Reading(Scheme(7, [0, 1, 3], 2), READING.offers),
                       Reading(SCHEME, [[(3, 1)], [], [(5, 2), (4, 2)]])):
             self.assertFalse(READING == other)
             self.assertTrue(READING != other)
@@ -126,6 +127,9 @@ class Plain(Case):
             self.same(told.is_plain, True)
             self.same(told.scheme, SCHEME)
             self.assertTrue(Reading.plain(row=row, scheme=SCHEME) == told)
+        row = [1, None, 3]
+        Reading.plain(SCHEME, row)
+        self.same(row, [1, None, 3])
 
     def test_no_row(self):
         for odd in NO_LISTS + ([], [1, 2], [1, 2, 3, 4], (None,)):

@@ -5,7 +5,7 @@ import unittest
 from allnear.checks import PRIMES
 from allnear.errors import BadNumber, BadScheme, BadText, Twice
 from allnear.schemes import Scheme
-from tests.helper import GREAT, NO_INTEGERS, NO_LISTS, ODD_ITEMS, PRIMES_WRITTEN, Case, Numbers, Odd, changed
+from tests.helper import GREAT, NO_INTEGERS, NO_LISTS, PRIMES_WRITTEN, Case, Numbers, Odd
 
 NO_PRIMES = (*NO_INTEGERS, 0, 1, 4, -5, 91, 98, 101, GREAT)
 
@@ -159,15 +159,9 @@ class Texts(Case):
         self.same(Scheme.read("5 5 at 4 at 3 at 2 at 1 at 0").k, 5)
 
     def test_changed(self):
-        for text in ("7 2 at 1 at 2 at 4", "2 2 at 1 at 0", "97 4 at 96 at 0 at 1 at 5 at 4", "5 5 at 4 at 3 at 2 at 1 at 0"):
-            for items in changed(text.split(" "), ODD_ITEMS):
-                if not items:
-                    continue
-                told, item = " ".join(items), first_wrong(items)
-                if item is None:
-                    self.same(str(Scheme.read(told)), told)
-                else:
-                    self.fails(BadText(0, item), Scheme.read, told)
+        texts = ("7 2 at 1 at 2 at 4", "2 2 at 1 at 0", "97 4 at 96 at 0 at 1 at 5 at 4",
+                 "5 5 at 4 at 3 at 2 at 1 at 0")
+        self.reads_changed(Scheme, texts, first_wrong)
 
 
 if __name__ == "__main__":
