@@ -104,6 +104,12 @@ class Curve:
         return Curve(p, rows)
 
 
+def need_curve(curve):
+    """Nothing, but this must be a curve."""
+    if not isinstance(curve, Curve):
+        raise BadCurve("curve")
+
+
 def need_poly(curve, poly):
     """Nothing, but this must be a polynomial that fits to the curve."""
     if not isinstance(poly, Poly):

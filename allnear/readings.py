@@ -111,6 +111,12 @@ class Reading:
         return Reading(Scheme(p, places, k), offers)
 
 
+def need_reading(reading):
+    """Nothing, but this must be a reading."""
+    if not isinstance(reading, Reading):
+        raise BadReading("reading")
+
+
 def need_place(scheme, index):
     """Nothing, but this must be the number of a place."""
     if not is_within(index, 0, len(scheme) - 1):

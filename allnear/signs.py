@@ -49,6 +49,11 @@ def difference_of(p, one, other):
     return sum_of(p, one, scaled(p, other, -1))
 
 
+def lessened(p, row, factor, other):
+    """The row less any integer times the other one."""
+    return sum_of(p, row, scaled(p, other, -factor)) if other else row
+
+
 def packed(row, width):
     """One integer with the signs as its digits, each one written with so many hexadecimal ones."""
     return int("".join([f"{sign:x}".zfill(width) for sign in row[::-1]]), 16)
@@ -110,3 +115,17 @@ def shifted(p, row, shift):
         out = [a + shift * b for a, b in zip([sign, *out], [*out, 0])]
         out = [one % p for one in out]
     return row_from(p, out)
+
+
+def begun_shifted(p, row, shift, many):
+    """The first so many coefficients of the row with x + shift put for x, zeros behind its end."""
+    out = []
+    left = row
+    for _ in range(many):
+        # Divided by x - shift the row leaves its next coefficient around the shift.
+        rests = [0]
+        for sign in left[::-1]:
+            rests.append((rests[-1] * shift + sign) % p)
+        out.append(rests[-1])
+        left = rests[-2:0:-1]
+    return out

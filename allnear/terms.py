@@ -4,6 +4,8 @@ from allnear.checks import is_integer, is_numbers, is_within
 from allnear.errors import BadNumber
 
 MOST_SPAN = 100
+# More conditions than these are asked of no curve.
+MOST_CONDITIONS = 150
 
 
 def need_k(k):

@@ -8,20 +8,12 @@ from allnear.readings import Reading
 from allnear.schemes import Scheme
 from allnear.words import row_of, words
 from tests.helper import GREAT, NO_INTEGERS, NO_LISTS, Case, Numbers, Odd
+from tests.some_readings import some_reading
 
 SCHEME = Scheme(7, [0, 1, 2], 2)
 READING = Reading(SCHEME, [[(3, 1)], [], [(5, 1), (4, 2)]])
 NO_SCHEMES = (None, True, 3, "7 2 at 0 at 1", (7, (0, 1, 2), 2), [], {}, Odd(), Scheme, READING)
 NO_WORDS = (None, True, 0, "7 : 1", [1], (1, 2), {}, Odd(), Poly, Poly(5, [1]), Poly(7, [0, 0, 1]), Poly(2))
-
-
-def some_reading(p, many, k, offers, seed):
-    """A reading with so many offers, at any places."""
-    numbers = Numbers(seed)
-    scheme = Scheme(p, numbers.pick(range(p), many), k)
-    chosen = numbers.pick([(at, value) for at in range(many) for value in range(p)], offers)
-    return Reading(scheme, [[(value, 1 + numbers.below(3)) for place, value in chosen if place == at]
-                            for at in range(many)])
 
 
 SOME = [some_reading(p, many, k, offers, seed) for seed, (p, many, k, offers) in enumerate(
