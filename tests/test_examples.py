@@ -2,10 +2,14 @@
 
 import unittest
 
-from allnear import checks, curves, errors, papers, polys, readings, schemes, terms, words
+from allnear import (
+    bases, check_judge, check_near, check_pieces, checks, curves, errors, judge, least, looks, near, papers, pieces,
+    polys, reaches, readings, schemes, terms, words,
+)
 from tests.helper import Case
 
-MODULES = (checks, curves, errors, papers, polys, readings, schemes, terms, words)
+MODULES = (bases, check_judge, check_near, check_pieces, checks, curves, errors, judge, least, looks, near, papers,
+           pieces, polys, reaches, readings, schemes, terms, words)
 
 EXAMPLES = """
 # checks
@@ -77,6 +81,67 @@ raises BadText(0, 6)
 ['5 : 2 / 0 3 /', '5 : 4 / 0 1 /', ((), (1,))]
 >>> Curve.read("5 : 3 0 / 1 /")
 raises BadText(0, 4)
+# bases
+>>> begun = Base(5, 2, 1)
+>>> two = begun.passing(0, 0, 1).passing(1, 1, 1)
+>>> [begun.least.rows, begun.passing(0, 0, 2).least.rows, two.least.rows, two.passed, two.conditions]
+[((1,),), ((0, 0, 1),), ((0, 4), (1,)), ((0, 0, 1), (1, 1, 1)), 2]
+>>> four = two.passing(2, 2, 1).passing(3, 0, 1)
+>>> [four.least.rows, four.passing(4, 0, 1).least.rows]
+[((0, 3, 4), (2, 1)), ((0, 2, 3, 1), (0, 4))]
+>>> begun.passing(0, 0, 16).passing(1, 1, 5)
+raises TooMany('conditions', 150)
+# least
+>>> five = Scheme(5, [0, 1, 2, 3, 4], 2)
+>>> read = Reading.plain(five, [0, 1, 2, 0, 0])
+>>> [least_curve(read, 1).rows, least_curve(Reading.plain(five, [None] * 5), 3).rows]
+[((), (0, 4), (1,)), ((1,),)]
+>>> least_curve(Reading(five, [[], [], [(4, 3)], [], []]), 2).rows
+((4, 3, 0, 0, 0, 3, 1),)
+# pieces
+>>> line, bent = Curve(5, [[], [0, 4], [1]]), Curve(7, [[0, 0, -1], [1]])
+>>> [pieces(line, 2).parts, pieces(bent, 2).parts, pieces(bent, 3).words, pieces(Curve(2, [[], [1], [1]]), 2).words]
+[(((0, 0), (0, 1)), (1, 1), ((1,),)), ((), (), ((0, 0, 6), (1,))), ((0, 0, 1),), ((0, 0), (1, 0))]
+>>> [pieces(Curve(5, [[0, 1], [0, 3], [0, 1]]), 2).parts, is_piece(bent, Poly(7, [0, 0, 1])), is_piece(bent, Poly(7)), pieces(Curve(3, [[2, 1]]), 2).parts]
+[(((1, 0),), (2,), ((0, 1),)), True, False, ((), (), ((2, 1),))]
+# check_pieces
+>>> [shows_pieces(line, 2, Pieces([[0, 0], [0, 1]], [1, 1], [[1]])), shows_pieces(line, 2, Pieces([(0, 0)], [1], [[0, 4], [1]])), shows_pieces(line, 2, Pieces([(0, 1), (0, 0)], [1, 1], [[1]]))]
+[True, False, False]
+# reaches
+>>> scheme = Scheme(5, [0, 1, 2, 3, 4], 2)
+>>> spoilt = Reading.plain(scheme, [0, 1, 2, 0, 0])
+>>> [conditions_of(spoilt, 1), conditions_of(spoilt, 3), enough(spoilt, 2), enough(spoilt, 3), reach(spoilt)]
+[5, 30, None, 1, (3, 1)]
+>>> [reach(Reading(scheme, [[], [], [], [], []])), reach(Reading(scheme, [[], [(3, 3)], [], [], []])), reach(Reading.plain(Scheme(7, [0, 1, 2, 3, 4, 5, 6], 2), [0, 0, 0, 0, 0, 0, 0]))]
+[(1, 1), (4, 1), (3, 3)]
+# near
+>>> near = all_near(spoilt, 3)
+>>> [near.words, near.curve.rows, near.m, all_near(spoilt, 4).words, all_near(spoilt, 10 ** 6).words]
+[((0, 0), (0, 1)), ((), (0, 4), (1,)), 1, (), ()]
+>>> best = nearest(spoilt)
+>>> [best.words, best.score, best.m, bool(nearest(Reading(scheme, [[], [], [], [], []])))]
+[((0, 0), (0, 1)), 3, 1, False]
+>>> all_near(spoilt, 2)
+raises Beyond(3)
+# check_near
+>>> curve = Curve(5, [[], [0, 4], [1]])
+>>> [shows_all(spoilt, 3, All([(0, 0), (0, 1)], curve, 1)), shows_all(spoilt, 3, All([(0, 1)], curve, 1)), shows_all(spoilt, 3, All([(0, 0), (0, 1)], curve, 2)), shows_all(spoilt, 4, All([], curve, 1))]
+[True, False, False, True]
+>>> [shows_nearest(spoilt, Nearest([(0, 0), (0, 1)], 3, curve, 1)), shows_nearest(spoilt, Far(curve, 1))]
+[True, False]
+# looks
+>>> line = Scheme(5, [0, 1, 2, 3, 4], 2)
+>>> seen = Reading.plain(line, [0, 1, 2, 0, 0])
+>>> [values_at(seen, 3, 0), values_at(seen, 3, 3), values_at(seen, 4, 3), best_look(seen, 3)]
+[(0,), (0, 3), (), (1, 1)]
+>>> [word_at(seen, 3, 0, 0), word_at(seen, 3, 3, 3), word_at(seen, 3, 3, 1)]
+['must', 'can', 'cannot']
+# judge
+>>> [alone(line, 4).word, alone(line, 3).word, bool(alone(line, 1)), alone(Scheme(2, [0, 1], 2), 2).word]
+['alone', 'twins', False, 'alone']
+# check_judge
+>>> [shows_alone(line, 3, Twins([0, 0], [0, 1], [0, 1, 2, 0, 0])), shows_alone(line, 4, Twins([0, 0], [0, 1], [0, 1, 2, 0, 0])), shows_alone(line, 4, Alone()), shows_alone(line, 3, Alone())]
+[True, False, True, False]
 """
 
 
@@ -108,7 +173,7 @@ class Examples(Case):
 
     def test_none_is_passed_over(self):
         pairs = example_pairs(EXAMPLES)
-        self.assertEqual(len([shown for _, shown in pairs if shown]), 27)
+        self.assertEqual(len([shown for _, shown in pairs if shown]), 46)
 
 
 if __name__ == "__main__":

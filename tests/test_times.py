@@ -3,13 +3,23 @@
 import time
 import unittest
 
+from allnear.bases import Base
+from allnear.check_near import shows_all, shows_nearest
+from allnear.check_pieces import shows_pieces
 from allnear.checks import first_twice
 from allnear.curves import Curve
+from allnear.looks import best_look
+from allnear.near import All, all_near, nearest
+from allnear.pieces import pieces
 from allnear.polys import Poly, shared, through
+from allnear.reaches import reach
+from allnear.readings import Reading
 from allnear.schemes import Scheme
 from allnear.terms import many_terms, terms_to
 from allnear.words import words
-from tests.helper import Numbers
+from tests.helper import GREAT, Numbers
+from tests.some_curves import curve_of
+from tests.some_readings import some_reading
 
 LIMIT = 10
 
@@ -49,6 +59,49 @@ class Times(unittest.TestCase):
         self.assertEqual(len(terms_to(2, 100)), 5151)
         self.assertEqual(many_terms(2, 10 ** 30), (10 ** 30 + 1) * (10 ** 30 + 2) // 2)
         self.assertEqual(first_twice([(sign, sign + 1) for sign in range(50000)] + [(7, 8)]), (7, 8))
+
+    def test_bases(self):
+        numbers = Numbers(42)
+        pairs = numbers.pick([(a, b) for a in range(97) for b in range(97)], 150)
+        for k in (2, 6):
+            for times in ([1] * 150, [3] * 25, [16, 4, 2, 1], [9, 9, 9, 5]):
+                base = Base(97, k, 20)
+                for (a, b), many in zip(pairs, times):
+                    base = base.passing(a, b, many)
+                self.assertEqual(base.conditions, 150)
+
+    def test_pieces(self):
+        numbers = Numbers(43)
+        for words_told, rest in (([numbers.some(4, 97) for _ in range(20)], [numbers.some(9, 97) + [1]]),
+                                 ([numbers.some(6, 97) for _ in range(13)], [[0, 1, 1], [], [], [1]]),
+                                 ([[1, 2, 3, 4, 5, at] for at in range(10)] * 2, [[0, 1]]),
+                                 ([[1, 2, 3, 4]] * 20, [[1] * 10])):
+            curve = curve_of(97, words_told, rest)
+            paper = pieces(curve, 6)
+            self.assertEqual(sum(paper.times), len(words_told))
+            self.assertTrue(shows_pieces(curve, 6, paper))
+        self.assertEqual(pieces(Curve(97, [numbers.some(70, 97) for _ in range(21)]), 6).words, ())
+
+    def test_readings(self):
+        for k in range(2, 7):
+            for reading in (some_reading(97, 16, k, 24, k), some_reading(97, 16, k, 24, k, 1),
+                            Reading(Scheme(97, list(range(8)), k), [[(turn, 3) for turn in range(3)]] * 8)):
+                paper = all_near(reading, reach(reading)[0])
+                self.assertTrue(shows_all(reading, reach(reading)[0], paper))
+                self.assertTrue(shows_nearest(reading, nearest(reading)))
+                self.assertEqual(all_near(reading, GREAT).words, ())
+        reading = Reading(Scheme(97, list(range(8)), 2), [[(turn, 3) for turn in range(3)]] * 8)
+        self.assertEqual(best_look(reading, 24), (0, 1))
+
+    def test_a_great_curve(self):
+        reading = some_reading(97, 16, 2, 24, 5)
+        curve = Curve(97, [[0] * 59 + [1]] * 21)
+        self.assertFalse(shows_all(reading, GREAT, All((), curve, 1)))
+        through_all = Curve(97, [[1]])
+        for place in reading.scheme.places:
+            for _ in range(3):
+                through_all = through_all * Curve(97, [[-place, 1]])
+        self.assertTrue(shows_all(reading, GREAT, All((), through_all * Curve(97, [[]] * 20 + [[0] * 11 + [1]]), 1)))
 
 
 if __name__ == "__main__":
