@@ -30,7 +30,7 @@ class Base:
         self._grown = [[(1,) if row == j else () for row in range(most + 1)] for j in range(most + 1)]
 
     def __eq__(self, other):
-        return (isinstance(other, Base) and self.p == other.p and self.k == other.k and self.most == other.most
+        return (type(self) is type(other) and self.p == other.p and self.k == other.k and self.most == other.most
                 and self.passed == other.passed)
 
     def passing(self, a, b, times):

@@ -23,7 +23,7 @@ class Curve:
         self.power = len(self.rows) - 1
 
     def __eq__(self, other):
-        return isinstance(other, Curve) and self.p == other.p and self.rows == other.rows
+        return type(self) is type(other) and self.p == other.p and self.rows == other.rows
 
     def __str__(self):
         rows = [" ".join([*[str(sign) for sign in row], "/"]) for row in self.rows]

@@ -22,7 +22,7 @@ class Poly:
         self.degree = len(self.coefficients) - 1
 
     def __eq__(self, other):
-        return isinstance(other, Poly) and self.p == other.p and self.coefficients == other.coefficients
+        return type(self) is type(other) and self.p == other.p and self.coefficients == other.coefficients
 
     def __str__(self):
         return " ".join([str(self.p), ":", *[str(sign) for sign in self.coefficients]])

@@ -33,7 +33,7 @@ class Reading:
         self.is_plain = all([len(pairs) < 2 for pairs in self.offers]) and self.weights == len(told)
 
     def __eq__(self, other):
-        return isinstance(other, Reading) and self.scheme == other.scheme and self.offers == other.offers
+        return type(self) is type(other) and self.scheme == other.scheme and self.offers == other.offers
 
     def __str__(self):
         places = [place_text(place, pairs) for place, pairs in zip(self.scheme.places, self.offers)]

@@ -29,7 +29,7 @@ class Scheme:
         return len(self.places)
 
     def __eq__(self, other):
-        return (isinstance(other, Scheme) and self.p == other.p and self.places == other.places
+        return (type(self) is type(other) and self.p == other.p and self.places == other.places
                 and self.k == other.k)
 
     def __str__(self):

@@ -21,7 +21,12 @@ NO_LISTS = (None, True, 3, "ab", "", b"ab", {}, {0: 1}, {1, 2}, range(3), Odd(),
 
 def fields_of(error):
     """The fields of an error, with their classes: True is not 1."""
-    return {name: (type(getattr(error, name)), getattr(error, name)) for name in FIELDS if hasattr(error, name)}
+    return {name: field_of(getattr(error, name)) for name in FIELDS if hasattr(error, name)}
+
+
+def field_of(value):
+    """A field with its class; of an error that stands there the fields."""
+    return (type(value), fields_of(value) if isinstance(value, NearError) else value)
 
 
 class Case(unittest.TestCase):

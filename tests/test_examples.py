@@ -3,13 +3,15 @@
 import unittest
 
 from allnear import (
-    bases, check_judge, check_near, check_pieces, checks, curves, errors, judge, least, looks, near, papers, pieces,
-    polys, reaches, readings, schemes, terms, words,
+    bases, check_judge, check_near, check_numbers, check_pieces, checks, curves, desk, desk_asks, desk_deeds,
+    desk_lines, errors, judge, least, looks, near, numbers, papers, pieces, polys, reaches, readings, rests, roots,
+    rows, schemes, stories, terms, words,
 )
 from tests.helper import Case
 
-MODULES = (bases, check_judge, check_near, check_pieces, checks, curves, errors, judge, least, looks, near, papers,
-           pieces, polys, reaches, readings, schemes, terms, words)
+MODULES = (bases, check_judge, check_near, check_numbers, check_pieces, checks, curves, desk, desk_asks, desk_deeds,
+           desk_lines, errors, judge, least, looks, near, numbers, papers, pieces, polys, reaches, readings, rests,
+           roots, rows, schemes, stories, terms, words)
 
 EXAMPLES = """
 # checks
@@ -142,6 +144,62 @@ raises Beyond(3)
 # check_judge
 >>> [shows_alone(line, 3, Twins([0, 0], [0, 1], [0, 1, 2, 0, 0])), shows_alone(line, 4, Twins([0, 0], [0, 1], [0, 1, 2, 0, 0])), shows_alone(line, 4, Alone()), shows_alone(line, 3, Alone())]
 [True, False, True, False]
+# rows
+>>> [determinant([[7]]), determinant([[0, 1], [1, 0]]), determinant([(2, 1), (1, 3)]), determinant([[1, 2], [2, 4]]), determinant([[1, 2, 3], [0, 4, 5], [0, 0, 6]])]
+[7, -1, 5, 0, 24]
+>>> near, other = reduced([[1, 0], [1000, 1]]), reduced([[5, 0], [2, 1]])
+>>> [sum([one * one for one in near[0]]), abs(determinant(near)), sum([one * one for one in other[0]]), abs(determinant(other))]
+[1, 1, 5, 5]
+>>> reduced([[1, 2], [2, 4]])
+raises BadRows('hang')
+>>> determinant([[1, 2]])
+raises BadRows('rows')
+# roots
+>>> [whole_roots([6, -5, 1], 0, 10), whole_roots([0, -1, 0, 1], -5, 5), whole_roots([4, -4, 1], 2, 2), whole_roots([-1, 2], -9, 9), whole_roots([5], 0, 99), whole_roots([-3, 1, 0, 0], 0, 9)]
+[(2, 3), (-1, 0, 1), (2,), (), (), (3,)]
+>>> whole_roots([10 ** 40, -2 * 10 ** 20, 1], 0, 10 ** 30)
+(100000000000000000000,)
+# rests
+>>> few = Rests([5, 7], [3, 3], 3)
+>>> [few.product, few.number, few.worth(3), few.right(0), str(few.without(7)), few.without(7).worth(3), few.with_rest(7, 4).number]
+[35, 3, 35, (), '3 : 5 3 / 7 -', 5, 18]
+>>> few.without(5).without(7)
+raises BadNumber("most")
+>>> Rests.read("3 : 5 3 / 7 7")
+raises BadText(0, 6)
+>>> book = Rests.read("30 : 11 8 / 29 8 / 31 8 / 43 8 / 53 19 / 73 19 / 89 19 / 97 19")
+>>> [book.worth(8), book.right(19), book.worth(30), book.worth(0)]
+[425227, (11, 53, 73, 89, 97), 11, 1]
+# numbers
+>>> [least_worth(few), enough_for(few, 15), enough_for(few, 16), enough_for(few, 17), enough_for(few, 18)]
+[16, None, (2, 4), (2, 3), (1, 2)]
+>>> [all_numbers(few, 16).numbers, all_numbers(book, 328987).numbers, all_numbers(book, 400000000).numbers, least_worth(book)]
+[(3,), (8, 19), (), 328987]
+>>> all_numbers(few, 7)
+raises Beyond(16)
+# check_numbers
+>>> [shows_numbers(few, worth, AllNumbers([3], [-3, 1], 1)) for worth in (6, 7, 35)]
+[False, True, True]
+>>> [shows_numbers(few, 7, AllNumbers((3,), told, 2)) for told in ([9, -6, 1], [-3, 1], [49, 0, 0])]
+[True, False, False]
+# desk_lines
+>>> [read_line("offer 0 3 1"), read_line("move 0 1"), read_line("set 7 2 at 0 at 1")[1] == Scheme(7, (0, 1), 2), read_line("reach")]
+[('offer', 0, 3, 1), ('move', (0, 1)), True, ('reach',)]
+>>> read_line("set 7 2 at 0")
+raises BadText(0, 5)
+>>> read_line("near")
+raises BadText(0, 1)
+# desk_asks
+>>> some = Reading.plain(Scheme(5, (0, 1, 2, 3, 4), 2), [0, 1, 2, 0, 0])
+>>> [answer(some, "reach"), answer(some, "near 3"), answer(some, "nearest"), answer(some, "at 3 2"), answer(some, "judge 3 0 0"), answer(some, "alone 3"), answer(some, "near 4"), answer(some, "score 0 2")]
+['3 1', '0 0 / 0 1', '3 / 0 0 / 0 1', '0 2', 'must', 'twins', '-', '1']
+>>> [done(some, "strike 3 0")[1], str(done(None, "set 5 2 at 0 at 1")[0])]
+['4', '5 2 at 0 at 1']
+# stories
+>>> play(["set 5 2 at 0 at 1 at 2 at 3 at 4", "offer 0 0 1", "offer 1 1 1", "offer 2 2 1", "offer 3 0 1", "offer 4 0 1", "near 3", "look 3"])
+('5', '1', '2', '3', '4', '5', '0 0 / 0 1', '1 1')
+>>> play(["reach"])
+raises BadLine(0, Nothing())
 """
 
 
@@ -173,7 +231,7 @@ class Examples(Case):
 
     def test_none_is_passed_over(self):
         pairs = example_pairs(EXAMPLES)
-        self.assertEqual(len([shown for _, shown in pairs if shown]), 46)
+        self.assertEqual(len([shown for _, shown in pairs if shown]), 68)
 
 
 if __name__ == "__main__":

@@ -182,6 +182,31 @@ class Statements(unittest.TestCase):
         for where, node in nodes(ast.BinOp):
             self.assertNotIsInstance(node.op, (ast.Div, ast.MatMult), where)
 
+    def test_exponents(self):
+        for where, node in nodes(ast.BinOp):
+            if isinstance(node.op, ast.Pow):
+                self.assertIsInstance(node.right, ast.Constant, where)
+                self.assertIn(node.right.value, range(65), where)
+
+    def test_is(self):
+        for where, node in nodes(ast.Compare):
+            if isinstance(node.ops[0], (ast.Is, ast.IsNot)):
+                plain = isinstance(node.comparators[0], ast.Constant)
+                self.assertTrue(plain or isinstance(node.left, ast.Call) and node.left.func.id == "type", where)
+
+    def test_what_is_not_used(self):
+        self.assertEqual(nodes(ast.Lambda, ast.Global, ast.Nonlocal, ast.Yield, ast.YieldFrom, ast.NamedExpr), [])
+
+    def test_tables_are_only_read(self):
+        for name, _, tree in FILES:
+            tables = {one.targets[0].id for one in tree.body if isinstance(one, ast.Assign)
+                      and isinstance(one.value, ast.Dict)}
+            for node in ast.walk(tree):
+                if isinstance(node, ast.Call):
+                    self.assertFalse(isinstance(node.func, ast.Subscript), (name, node.lineno))
+                    told = [one.id for one in node.args if isinstance(one, ast.Name)]
+                    self.assertEqual(tables & set(told), set(), (name, node.lineno))
+
     def test_no_generator_beside_equality(self):
         for where, node in nodes(ast.Call):
             if isinstance(node.func, ast.Name) and node.func.id in ("any", "all", "min", "max", "sum", "sorted"):

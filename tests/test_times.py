@@ -5,21 +5,29 @@ import unittest
 
 from allnear.bases import Base
 from allnear.check_near import shows_all, shows_nearest
+from allnear.check_numbers import shows_numbers
 from allnear.check_pieces import shows_pieces
 from allnear.checks import first_twice
 from allnear.curves import Curve
 from allnear.looks import best_look
 from allnear.near import All, all_near, nearest
+from allnear.numbers import all_numbers, least_worth
 from allnear.pieces import pieces
 from allnear.polys import Poly, shared, through
 from allnear.reaches import reach
 from allnear.readings import Reading
+from allnear.roots import whole_roots
+from allnear.rows import determinant, reduced
 from allnear.schemes import Scheme
+from allnear.stories import play
 from allnear.terms import many_terms, terms_to
 from allnear.words import words
 from tests.helper import GREAT, Numbers
 from tests.some_curves import curve_of
 from tests.some_readings import some_reading
+from tests.some_rests import FAR
+from tests.test_roots import with_roots
+from tests.test_rows import mixed, some_rows, with_a_great_first
 
 LIMIT = 10
 
@@ -102,6 +110,30 @@ class Times(unittest.TestCase):
             for _ in range(3):
                 through_all = through_all * Curve(97, [[-place, 1]])
         self.assertTrue(shows_all(reading, GREAT, All((), through_all * Curve(97, [[]] * 20 + [[0] * 11 + [1]]), 1)))
+
+    def test_rows(self):
+        for seed in range(40):
+            for rows in (some_rows(6, 10 ** 40 - 1, seed), with_a_great_first(6, seed), mixed(6, seed)):
+                self.assertEqual(abs(determinant(rows)) > 0, bool(reduced(rows)))
+
+    def test_roots(self):
+        for roots in ([10 ** 60 + turn for turn in range(11)], [(turn - 5) * 10 ** 60 for turn in range(11)],
+                      [10 ** 60] * 11, [10 ** (6 * turn) for turn in range(11)]):
+            row = with_roots(roots)
+            for far in (10 ** 60, 10 ** 120, 10 ** 1000):
+                self.assertEqual(whole_roots(row, -far * 9, far * 9)[-1:], (max(roots),))
+        self.assertEqual(whole_roots([10 ** 3000] * 12, -10 ** 3000, 10 ** 3000), (-1,))
+
+    def test_numbers(self):
+        for rests in FAR[:5]:
+            least = least_worth(rests)
+            for worth in (least, least + 1, 2 * least, rests.product):
+                self.assertTrue(shows_numbers(rests, worth, all_numbers(rests, worth)))
+
+    def test_a_long_story(self):
+        begin = "set 97 2 " + " ".join(f"at {place}" for place in range(16))
+        lines = [begin] + ["offer 3 5 1", "stretch 2", "move 1 1", "read 5 2 at 0 at 1", begin] * 1000
+        self.assertEqual(play(lines)[-6:], ("16", "1", "1", "1", "0", "16"))
 
 
 if __name__ == "__main__":
