@@ -1,8 +1,11 @@
-"""Whole roots of whole polynomials, by halving."""
+"""Whole roots of whole polynomials, digit by digit."""
 
 from allnear.checks import is_integer, is_within
 from allnear.errors import BadNumber, BadRows
-from allnear.wholes import is_whole, to_power, whole_around, whole_value
+from allnear.wholes import is_whole, whole_around, whole_value
+
+# Digits are from 0 to one less than this prime.
+BASE = 97
 
 
 def whole_roots(coefficients, low, high):
@@ -27,61 +30,50 @@ def without_last_zeros(row):
 
 
 def bound_of_roots(row):
-    """An integer, such that no root is further away from 0."""
-    sizes = [abs(number) for number in row]
-    others = sizes[:-1]
-    far = 1
-    # From there on the last part of the value is greater than all others together.
-    while sizes[-1] * to_power(far, len(others)) <= whole_value(others, far):
-        far = 2 * far
-    return far
+    """An integer, such that no root of a row that does not end with 0 is further away from 0."""
+    last = len(row) - 1
+    bits = [abs(number).bit_length() for number in row]
+    # At twice so great a number the other parts of the value are below a half, a quarter and so on of the last one.
+    powers = [(bits[at] - bits[last]) // (last - at) + 1 for at in range(last)]
+    return 1 << (max([0, *powers]) + 1)
 
 
 def roots_between(row, low, high):
-    """The whole roots from low to high of a row that does not end with 0."""
-    if low > high:
-        return ()
-    starts = [low, *turns_of(row, low, high)]
-    ends = [*starts[1:], high + 1]
-    return tuple([x for start, end in zip(starts, ends) if whole_value(row, start) == 0 for x in range(start, end)])
+    """The whole roots from low to high of a row that is not all 0."""
+    # Each way is an integer, and the row of the polynomial of how many units are added to it.
+    ways = [(low, whole_around(row, low))]
+    unit = 1
+    while unit <= high - low:
+        ways = [way for start, left in ways for way in next_ways(start, left, unit)]
+        unit = unit * BASE
+    return tuple(sorted([start for start, left in ways if left[0] == 0 and start <= high]))
 
 
-def turns_of(row, low, high):
-    """Where, behind low and up to high, the sign is another one than at the integer just ahead; ascending."""
-    if len(row) < 2 or low >= high:
-        return []
-    # From one of these ends to the next one the values only rise, only fall, or stay.
-    ends = [low, *turns_of(differences(row), low, high - 1), high]
-    turns = []
-    for start, end in zip(ends, ends[1:]):
-        at = start
-        while sign_at(row, at) != sign_at(row, end):
-            at = first_turn(row, at, end)
-            turns.append(at)
-    return turns
+def next_ways(start, left, unit):
+    """The ways with one digit more: those that may lead to a root.
+
+    A digit that is a root so many times, modulo the prime, leaves no more roots than these for the next digit. So
+    there are at most as many ways as the degree.
+    """
+    bare = without_base(left)
+    signs = [number % BASE for number in bare]
+    return [(start + digit * unit, stretched(whole_around(bare, digit))) for digit in range(BASE)
+            if whole_value(signs, digit) % BASE == 0]
 
 
-def differences(row):
-    """The row of the polynomial that tells how much the value rises to the next integer."""
-    return [after - before for after, before in zip(whole_around(row, 1), row)][:-1]
+def without_base(row):
+    """The row divided by the base as often as all its numbers can be; they are not all 0."""
+    out = row
+    while all([number % BASE == 0 for number in out]):
+        out = [number // BASE for number in out]
+    return out
 
 
-def sign_at(row, x):
-    """The sign of the value: -1, 0 or 1."""
-    value = whole_value(row, x)
-    if value == 0:
-        return 0
-    return 1 if value > 0 else -1
-
-
-def first_turn(row, start, end):
-    """The first integer behind start with another sign; the end has one, and between them no sign comes again."""
-    sign = sign_at(row, start)
-    same, other = start, end
-    while other - same > 1:
-        middle = (same + other) // 2
-        if sign_at(row, middle) == sign:
-            same = middle
-        else:
-            other = middle
-    return other
+def stretched(row):
+    """The row with the base times x put for x."""
+    out = []
+    factor = 1
+    for number in row:
+        out.append(number * factor)
+        factor = factor * BASE
+    return out

@@ -116,6 +116,36 @@ class Far(Case):
                                     (far + 1, far + 1, ()), (far - 1, far + 1, (far,)), (0, 0, ())):
                 self.gives(whole_roots, told, row, low, high)
 
+    def test_all_distances(self):
+        # A root at each end of a range, whatever its size: also where one digit more is needed.
+        for size in [*range(1, 130), *[2 ** power + turn for power in range(7, 60, 4) for turn in (-1, 0, 1)],
+                     *[97 ** power + turn for power in range(1, 9) for turn in (-1, 0, 1)]]:
+            for low in (0, -size, 7 - size // 2, GREAT):
+                row = with_roots((low, low + size), [-2, 3])
+                self.gives(whole_roots, (low, low + size), row, low, low + size)
+                self.gives(whole_roots, (low,), row, low, low + size - 1)
+                self.gives(whole_roots, (low + size,), row, low + 1, low + size)
+                self.gives(whole_roots, (low, low + size), row, -GREAT ** 2, GREAT ** 2)
+
+    def test_roots_that_look_alike(self):
+        # Roots, and others beside them, that are the same but for multiples of powers.
+        for base in (2, 3, 10, 97):
+            for power in (1, 2, 5, 20):
+                apart = base ** power
+                self.found((5, 5 + apart, 5 + apart * base, 5 - apart, 5, 5 + apart), low=-GREAT, high=GREAT)
+                self.found((5, 5 + apart), [-5, 6 + apart], [1 + 2 * apart, 2, 0], low=-GREAT, high=GREAT)
+                self.found((0, apart, -apart), [apart, 0, 1], [apart, 1, 1], low=-GREAT, high=GREAT)
+                # Its one root above 0, for these make up the last part there; one less has none.
+                row = [apart] * 10 + [-1]
+                self.gives(whole_roots, (apart + 1,), [apart + 1] + row, 0, GREAT ** 2)
+                self.gives(whole_roots, (), [apart + 2] + row, 2, GREAT ** 2)
+
+    def test_great_numbers_ahead(self):
+        for factor in (97, 97 ** 30, 10 ** 2000, -2 ** 40):
+            for roots in ((3,), (97, 0), (97 ** 5, 97 ** 4, -97)):
+                self.found(roots, [factor], low=-GREAT, high=GREAT)
+                self.found(roots, [factor, factor * 97 * 2], low=-GREAT, high=GREAT)
+
     def test_far_bounds(self):
         for far in (GREAT, 10 ** 300, 10 ** 3000):
             self.gives(whole_roots, (2, 3), [6, -5, 1], -far, far)

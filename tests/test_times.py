@@ -123,6 +123,8 @@ class Times(unittest.TestCase):
             for far in (10 ** 60, 10 ** 120, 10 ** 1000):
                 self.assertEqual(whole_roots(row, -far * 9, far * 9)[-1:], (max(roots),))
         self.assertEqual(whole_roots([10 ** 3000] * 12, -10 ** 3000, 10 ** 3000), (-1,))
+        far = [10 ** 600 + 7 * turn for turn in range(11)]
+        self.assertEqual(whole_roots(with_roots(far), 0, 10 ** 900), tuple(far))
 
     def test_numbers(self):
         for rests in FAR[:5]:
