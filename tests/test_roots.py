@@ -127,6 +127,15 @@ class Far(Case):
                 self.gives(whole_roots, (low + size,), row, low + 1, low + size)
                 self.gives(whole_roots, (low, low + size), row, -GREAT ** 2, GREAT ** 2)
 
+    def test_roots_beyond_the_coefficients(self):
+        # All roots of small polynomials, asked for between bounds that are far from all of them.
+        for one in range(-25, 26):
+            for two in range(one, 26):
+                self.found((one, two), low=-GREAT, high=GREAT)
+        for power in range(3, 60, 7):
+            self.found((12 * 2 ** power, -5 * 2 ** power), low=-GREAT, high=GREAT)
+            self.found((-12 * 2 ** power, 5 * 2 ** power), [1, 0, 1], low=-GREAT, high=GREAT)
+
     def test_roots_that_look_alike(self):
         # Roots, and others beside them, that are the same but for multiples of powers.
         for base in (2, 3, 10, 97):
